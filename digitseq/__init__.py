@@ -1,0 +1,1 @@
+"""Sequences told by a machine that reads a number's digits."""
