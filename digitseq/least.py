@@ -3,10 +3,15 @@
 from digitseq.machine import Machine
 
 
-def least_machine(machine):
-    """A machine of the same base and sequence with as few states as there can be."""
+def least_machine(machine, most):
+    """A machine of the same base and sequence with as few states as there can be.
+
+    None if that's more than most.
+    """
     states = reached_states(machine)
-    kinds = kinds_of(machine, states)
+    kinds = kinds_of(machine, states, most)
+    if count_kinds(kinds) > most:
+        return None
     ways = []
     tells = []
     for state in states:
@@ -32,12 +37,16 @@ def reached_states(machine):
     return states
 
 
-def kinds_of(machine, states):
-    """For each of the states its kind: two have one kind if no digits tell them apart."""
+def kinds_of(machine, states, most):
+    """For each of the states its kind: two have one kind if no digits tell them apart.
+
+    Where there are more than most kinds, they may be told apart in part only.
+    """
     kinds = numbered(states, [machine.tells[state] for state in states])
     many = 0
     # A round without a new kind is the last: each later one would part nothing either.
-    while many < count_kinds(kinds):
+    # Kinds never become one again, so with more than most there's nothing left to know.
+    while many < count_kinds(kinds) and count_kinds(kinds) <= most:
         many = count_kinds(kinds)
         kinds = numbered(states, [look_ahead(machine, kinds, state) for state in states])
     return kinds

@@ -1,24 +1,38 @@
 """Four places for machines, and the calls on them."""
 
+from digitseq.counts import count_term
+from digitseq.differences import first_difference
+from digitseq.joins import GREATER, SUM, join_machines
 from digitseq.kernels import count_kernel
 from digitseq.least import least_machine
-from digitseq.machine import read_machine, term_at
+from digitseq.machine import MOST_STATES, read_machine, term_at
+from digitseq.rows import first_row
 
 PLACES = 4
 MOST_SEQUENCES = 1000
+MOST_TOLD = 255
+MOST_ROW = 32
+MOST_DIGITS = 4200
+# 2^63: so far up, count is not answered.
+END_OF_COUNT = 9223372036854775808
 
 REFUSED = -1
 TOO_MANY = -2
+NO_NUMBER = -2
 
 BEGIN = 0
 SET = 1
 TERM = 2
 STATES = 3
 KERNEL = 4
+COUNT = 5
+DIFFER = 6
+FIND = 7
+BOTH = 8
 
 # For each call in turn: how many whole numbers it has, and how many rows behind them.
-NUMBERS = (0, 3, 2, 1, 1)
-ROWS = (0, 1, 0, 0, 0)
+NUMBERS = (0, 3, 2, 1, 1, 3, 3, 2, 4)
+ROWS = (0, 1, 0, 0, 0, 0, 0, 1, 0)
 
 
 class Places:
@@ -34,13 +48,13 @@ class Places:
 
     def put(self, place, base, count, table):
         """Gives the place the machine that the table tells."""
-        if place < 0 or place >= PLACES:
+        if not is_place(place):
             return REFUSED
         machine = read_machine(base, count, table)
         if machine is None:
             return REFUSED
         # What is promised hangs on base and sequence alone, so the least one will do.
-        self.machines[place] = least_machine(machine)
+        self.machines[place] = least_machine(machine, MOST_STATES)
         return 0
 
     def term(self, place, number):
@@ -63,6 +77,54 @@ class Places:
         if many > MOST_SEQUENCES:
             return TOO_MANY
         return many
+
+    def count_numbers(self, place, told, end):
+        """How many of the numbers from 0 to end - 1 have the term told."""
+        if place not in self.machines or told < 0 or told > MOST_TOLD or end >= END_OF_COUNT:
+            return REFUSED
+        return count_term(self.machines[place], told, end)
+
+    def differ(self, place, other, most):
+        """The least number with different terms at the places: its length, and its first digits."""
+        if not self.have_one_base(place, other):
+            return [REFUSED]
+        return first_digits(first_difference(self.machines[place], self.machines[other]), most)
+
+    def find_row(self, place, most, row):
+        """The least number at which the row stands: its length, and its first digits."""
+        if place not in self.machines or len(row) < 1 or len(row) > MOST_ROW:
+            return [REFUSED]
+        return first_digits(first_row(self.machines[place], row), most)
+
+    def put_both(self, target, place, other, what):
+        """Gives the target a machine that tells what is asked of the terms at the two places."""
+        if not is_place(target) or not self.have_one_base(place, other) or what < SUM or what > GREATER:
+            return REFUSED
+        machine = least_machine(join_machines(self.machines[place], self.machines[other], what), MOST_STATES)
+        if machine is None:
+            return TOO_MANY
+        self.machines[target] = machine
+        return 0
+
+    def have_one_base(self, place, other):
+        """Whether there is a machine at each of the two places, both of one base."""
+        if place not in self.machines or other not in self.machines:
+            return False
+        return self.machines[place].base == self.machines[other].base
+
+
+def is_place(place):
+    """Whether there is such a place, be it empty or not."""
+    return place >= 0 and place < PLACES
+
+
+def first_digits(digits, most):
+    """How many digits there are, then the first most of them; or that there is no number."""
+    if digits is None:
+        return [NO_NUMBER]
+    if most < 1 or most > MOST_DIGITS:
+        return [len(digits)]
+    return [len(digits)] + digits[:most]
 
 
 def answers(calls):
@@ -95,4 +157,12 @@ def answer_call(places, call, given):
         return [places.term(given[0], given[1])]
     if call == STATES:
         return [places.states(given[0])]
-    return [places.kernel(given[0])]
+    if call == KERNEL:
+        return [places.kernel(given[0])]
+    if call == COUNT:
+        return [places.count_numbers(given[0], given[1], given[2])]
+    if call == DIFFER:
+        return places.differ(given[0], given[1], given[2])
+    if call == FIND:
+        return places.find_row(given[0], given[1], given[2])
+    return [places.put_both(given[0], given[1], given[2], given[3])]

@@ -28,6 +28,22 @@ def kernel(i):
     return [4, i]
 
 
+def count(i, x, n):
+    return [5, i, x, n]
+
+
+def differ(i, j, most):
+    return [6, i, j, most]
+
+
+def find(i, row, most):
+    return [7, i, most, len(row)] + list(row)
+
+
+def both(d, i, j, what):
+    return [8, d, i, j, what]
+
+
 def ask(*calls):
     """What each call answers behind begin, as a list of lists, begin's own left out."""
     handed = begin()
@@ -82,6 +98,36 @@ def first_digit(k):
     return machine_of(k, [list(range(k)) + [0]] + [[s] * k + [s] for s in range(1, k)])
 
 
+def length(k, most):
+    """Tells how many digits m has, most where they're more; of 0 it tells 0."""
+    rows = [[0] + [1] * (k - 1) + [0]]
+    rows += [[min(s + 1, most)] * k + [s] for s in range(1, most + 1)]
+    return machine_of(k, rows)
+
+
+def digit_counter(k, digit, p):
+    """Tells how often the digit, not 0, stands in m, modulo p."""
+    return machine_of(k, [[(s + (d == digit)) % p for d in range(k)] + [s] for s in range(p)])
+
+
+def telling(machine, tells):
+    """The same machine with other tellings."""
+    k, n, table = machine
+    width = k + 1
+    return machine_of(k, [table[s * width:s * width + k] + [tells[s]] for s in range(n)])
+
+
+def word(k, digits):
+    """Tells 1 if the digits, one behind another, come before they are broken off, else 0.
+
+    A digit that's another one leads back to the start; the first of them is not 0. So
+    the least number with term 1 has just these digits.
+    """
+    n = len(digits) + 1
+    rows = [[s + 1 if d == digits[s] else 0 for d in range(k)] + [0] for s in range(n - 1)]
+    return machine_of(k, rows + [[n - 1] * k + [1]])
+
+
 def permuting(tells):
     """Digit 0 turns all states but 0 round, digit 1 swaps 0 and 1: all orders can be made."""
     n = len(tells)
@@ -90,16 +136,24 @@ def permuting(tells):
     return machine_of(2, [[turned[s], swapped[s], tells[s]] for s in range(n)])
 
 
-def plain_term(machine, m):
-    """The term by the table alone, with the digits found from the highest power down."""
-    k, n, table = machine
+def plain_digits(m, k):
+    """The number's digits, from the highest power down."""
     power = 1
     while power * k <= m:
         power *= k
-    state = 0
+    digits = []
     while power > 0:
-        state = table[state * (k + 1) + m // power % k]
+        digits.append(m // power % k)
         power //= k
+    return digits
+
+
+def plain_term(machine, m):
+    """The term by the table alone."""
+    k, n, table = machine
+    state = 0
+    for digit in plain_digits(m, k):
+        state = table[state * (k + 1) + digit]
     return table[state * (k + 1) + k]
 
 
